@@ -148,3 +148,33 @@ func allShown(line string) bool {
 
 // newText is a copy, since a piece of an argument would share its memory.
 func newText(piece string) string { return strings.Clone(piece) }
+
+// varTexts is asked of numbers alone that have a VarText.
+func varTexts(numbers ...int) string {
+	out := strings.Builder{}
+	for _, n := range numbers {
+		text, _ := VarText(n)
+		out.WriteString(text)
+	}
+	return out.String()
+}
+
+// varReader reads numbers one behind the other; once one was not there it tells 0 for ever, so that who asks need look only at the end.
+type varReader struct {
+	text   string
+	at     int
+	failed bool
+}
+
+// number has a limit, so that a spoilt text can't ask for more room than a right one.
+func (r *varReader) number(most int) int {
+	n, behind, ok := ReadVar(r.text, r.at)
+	if r.failed || !ok || n > most {
+		r.failed = true
+		return 0
+	}
+	r.at = behind
+	return n
+}
+
+func (r *varReader) isAtEnd() bool { return !r.failed && r.at == len(r.text) }
