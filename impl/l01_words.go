@@ -159,7 +159,7 @@ func varTexts(numbers ...int) string {
 	return out.String()
 }
 
-// varReader reads numbers one behind the other; once one was not there it tells 0 for ever, so that who asks need look only at the end.
+// varReader reads numbers and bytes one behind the other; once one was not there it tells 0 for ever, so that who asks need look only at the end.
 type varReader struct {
 	text   string
 	at     int
@@ -175,6 +175,15 @@ func (r *varReader) number(most int) int {
 	}
 	r.at = behind
 	return n
+}
+
+func (r *varReader) oneByte() byte {
+	if r.failed || r.at >= len(r.text) {
+		r.failed = true
+		return 0
+	}
+	r.at++
+	return r.text[r.at-1]
 }
 
 func (r *varReader) isAtEnd() bool { return !r.failed && r.at == len(r.text) }
