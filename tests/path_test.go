@@ -908,13 +908,37 @@ func endsOfParts(g impl.Graph, p impl.Path, from int) []int {
 	return slices.Compact(out)
 }
 
-// wordsByHand are all words of a and b up to this length.
-func wordsByHand(most int) []string {
+// wordsByHand are all words of these labels up to this length.
+func wordsByHand(labels string, most int) []string {
 	out := []string{""}
 	for at := 0; len(out[at]) < most; at++ {
-		out = append(out, out[at]+"a", out[at]+"b")
+		for i := range len(labels) {
+			out = append(out, out[at]+labels[i:i+1])
+		}
 	}
 	return out
+}
+
+// smallGraphs have so few vertices that short words come to each end.
+func smallGraphs() []impl.Graph {
+	return []impl.Graph{
+		graph(3), graph(2, edge(0, 'a', 1), edge(1, 'b', 0)), graph(3, edge(0, 'a', 1), edge(1, 'a', 2), edge(2, 'b', 0)), graph(3, edge(0, 'a', 1), edge(1, 'a', 2), edge(2, 'a', 0)),
+		graph(3, edge(0, 'a', 0), edge(0, 'b', 1), edge(1, 'a', 2), edge(2, 'b', 2)), graph(3, edge(0, 'a', 1), edge(0, 'a', 2), edge(1, 'b', 0), edge(2, 'b', 2)),
+	}
+}
+
+// checkManyPaths makes the check of each path that is written out in each graph, and of each drawn one in one of them.
+func checkManyPaths(t *testing.T, check func(t *testing.T, g impl.Graph, p impl.Path)) {
+	t.Helper()
+	graphs := graphsToLead(40, 61)
+	for _, g := range graphs {
+		for _, text := range rightPathTexts {
+			check(t, g, mustRead(t, text))
+		}
+	}
+	for i, p := range drawnPaths(2000, 67) {
+		check(t, graphs[i%len(graphs)], p)
+	}
 }
 
 // bracketed is the text with each piece in brackets of its own, so that a sign behind a sign says nothing else to a regular expression.
@@ -937,11 +961,8 @@ func bracketed(p impl.Path, place int) string {
 
 // TestPathsLeadWhereTheirWordsDo walks each word that is one of the path; in three vertices and with three steps one of at most 11 steps comes to each end.
 func TestPathsLeadWhereTheirWordsDo(t *testing.T) {
-	words := wordsByHand(11)
-	graphs := []impl.Graph{
-		graph(3), graph(2, edge(0, 'a', 1), edge(1, 'b', 0)), graph(3, edge(0, 'a', 1), edge(1, 'a', 2), edge(2, 'b', 0)), graph(3, edge(0, 'a', 1), edge(1, 'a', 2), edge(2, 'a', 0)),
-		graph(3, edge(0, 'a', 0), edge(0, 'b', 1), edge(1, 'a', 2), edge(2, 'b', 2)), graph(3, edge(0, 'a', 1), edge(0, 'a', 2), edge(1, 'b', 0), edge(2, 'b', 2)),
-	}
+	words := wordsByHand("ab", 11)
+	graphs := smallGraphs()
 	for _, text := range []string{"a", "ab", "a|b", "a*", "a+", "a?", "ab*", "(ab)*", "(ab)+", "(a|b)*", "a+?", "a?+", "(a?b)+", "(aab)*", "(aab)+", "a*b*", "(a*b*)+", "a|bb", "(a|bb)+", "(aa)*b?", "((a|b)a)*", "(a+b)?"} {
 		p := mustRead(t, text)
 		fits := regexp.MustCompile("^" + bracketed(p, len(p.Pieces)-1) + "$")
@@ -1178,15 +1199,7 @@ func TestTurnedPath(t *testing.T) {
 }
 
 func TestThePathThatLeadsBackLeadsBack(t *testing.T) {
-	graphs := graphsToLead(40, 61)
-	for _, g := range graphs {
-		for _, text := range rightPathTexts {
-			checkLeadsBack(t, g, mustRead(t, text))
-		}
-	}
-	for i, p := range drawnPaths(2000, 67) {
-		checkLeadsBack(t, graphs[i%len(graphs)], p)
-	}
+	checkManyPaths(t, checkLeadsBack)
 }
 
 func TestKidsInOneMemory(t *testing.T) {
